@@ -1,0 +1,57 @@
+"""The names, files and parameters of the interface, as far as it has landed."""
+
+import importlib
+import inspect
+import unittest
+
+from asking import Asking
+
+INTERFACE = """
+divisors: divisors_of(number) primes_of(number) coprime_count(number) is_prime(value) common_divisor(first,second)
+divisors: index_of(level) symbol(first,prime)
+ratios: is_ratio(value) ratio_of(first,second) added(one,other) less(one,other) times(one,other) divided(one,other)
+ratios: compared(one,other) square_free(ratio)
+series: product_row(product,many) plain_row(product,many) number_at(product,place) rows_added(row,other)
+series: rows_times(row,other) row_power(row,exponent) row_at(row,d,many) section_of(row,m,t) first_unlike(row,other)
+products: is_product(value) product_times(product,other) product_power(product,exponent) product_at(product,d)
+products: parting_place(product,other)
+kinds: is_kind(value) colours_of(kind,part) most_of(kind,part)
+"""
+
+# Values by which each function can be called by the names of its parameters.
+RIGHT = {"number": 6, "value": 1, "first": 3, "second": 2, "level": 4, "prime": 7, "one": (1, 2), "other": (1, 3),
+         "ratio": (1, 2), "product": ("product", ((1, -1),)), "many": 4, "place": 2, "row": [1, 2], "exponent": 2, "d": 2,
+         "m": 2, "t": 1, "kind": ("kind", 1, ((1, 0),)), "part": 3, "text": "modulus 1", "partition": ((3, 0), (1, 0)),
+         "position": 1, "fold": 2, "parts": (3, 1), "total": 5}
+OTHERS = {"series": [1, 2], "products": ("product", ()), "powers": ("kind", 1, ((1, 1),))}
+
+
+def listed():
+    for line in INTERFACE.strip().split("\n"):
+        file, functions = line.split(": ")
+        for function in functions.split():
+            name, parameters = function.rstrip(")").split("(")
+            yield file, name, parameters.split(",")
+
+
+class TestInterface(Asking):
+    def test_each_function_is_defined_in_its_file(self):
+        for file, name, parameters in listed():
+            with self.subTest(file=file, name=name):
+                function = getattr(importlib.import_module("etaparts." + file), name)
+                self.assertTrue(inspect.isfunction(function))
+                self.assertEqual((function.__module__, function.__name__), ("etaparts." + file, name))
+                self.assertEqual(list(inspect.signature(function).parameters), parameters)
+
+    def test_arguments_by_position_and_by_name(self):
+        for file, name, parameters in listed():
+            with self.subTest(file=file, name=name):
+                function = getattr(importlib.import_module("etaparts." + file), name)
+                named = {word: RIGHT[word] for word in parameters}
+                if "other" in named and file in OTHERS:
+                    named["other"] = OTHERS[file]
+                self.assertEqual(repr(function(**named)), repr(function(*named.values())))
+
+
+if __name__ == "__main__":
+    unittest.main()
