@@ -34,6 +34,51 @@ EXAMPLES = r"""
 >>> plain, odd, mixed = ("kind", 1, ((1, 0),)), ("kind", 2, ((0, 0), (1, 0))), ("kind", 3, ((2, 1), (1, 0), (1, 0)))
 >>> [is_kind(plain), is_kind(("kind", 2, ((1, 0),))), is_kind(("kind", 1, ((0, 1),))), colours_of(odd, 4), colours_of(mixed, 9), most_of(mixed, 9), most_of(mixed, 10)]
 [True, False, False, 0, 2, 1, 0]
+
+>>> from etaparts.kindtexts import kind_text, parse_kind
+>>> [parse_kind("modulus 3 # rests\nparts all\ncolours 2 0\nmost 1 0") == mixed, kind_text(mixed), kind_text(odd), parse_kind("modulus 1\nparts all") == plain]
+[True, 'modulus 3\nparts all\ncolours 2 0\nmost 1 0\n', 'modulus 2\nparts 1\n', True]
+
+>>> from etaparts.powers import as_product, kind_row, period, plain_kind_row, power_at, powers_row, unlike_place
+>>> once = ("kind", 1, ((1, 1),))
+>>> [powers_row(once, 4), period(once), kind_row(odd, 8), plain_kind_row(once, 8), unlike_place(odd, once), unlike_place(plain, once), power_at(mixed, 6)]
+[[-1, 0, -1, 0], 2, [1, 1, 1, 2, 2, 3, 4, 5], [1, 1, 1, 2, 2, 3, 4, 5], None, 2, 0]
+>>> [as_product(plain), as_product(once), as_product(("kind", 5, ((0, 0), (1, 0), (0, 0), (0, 0), (1, 0))))]
+[('product', ((1, -1),)), ('product', ((1, -1), (2, 1))), None]
+
+>>> from etaparts.listing import count_row, counts_by_many, is_partition, partition_count, partitions
+>>> all_parts, unlike, even = ("kind", 1, ((1, 0),)), ("kind", 1, ((1, 1),)), ("kind", 2, ((1, 0), (0, 0)))
+>>> [partitions(unlike, 5), partitions(("kind", 1, ((2, 0),)), 2), partitions(even, 3), partitions(unlike, 0)]
+[[((3, 0), (2, 0)), ((4, 0), (1, 0)), ((5, 0),)], [((1, 0), (1, 0)), ((1, 1), (1, 0)), ((1, 1), (1, 1)), ((2, 0),), ((2, 1),)], [], [()]]
+>>> [count_row(all_parts, 8), partition_count(all_parts, 100), counts_by_many(all_parts, 4), is_partition(all_parts, ((2, 0), (2, 0))), is_partition(unlike, ((2, 0), (2, 0))), is_partition(all_parts, ((1, 0), (2, 0)))]
+[[1, 1, 2, 3, 5, 7, 11, 15], 190569292, [(1, 1), (2, 2), (3, 1), (4, 1)], True, False, False]
+
+>>> from etaparts.ranking import greatest_partition, least_partition, next_partition, partition_at, position_of
+>>> [partition_at(all_parts, 4, 2), position_of(all_parts, ((3, 0), (1, 0))), least_partition(all_parts, 3), greatest_partition(unlike, 5), least_partition(even, 3), next_partition(unlike, ((4, 0), (1, 0))), next_partition(unlike, ((5, 0),))]
+[((2, 0), (2, 0)), 3, ((1, 0), (1, 0), (1, 0)), ((5, 0),), None, ((5, 0),), None]
+
+>>> from etaparts.glaisher import few_parts, free_parts, gathered, is_few, is_free, is_parts, spread
+>>> [is_parts((3, 3, 1)), is_parts((1, 2)), is_parts([2, 1]), is_free(3, (4, 1)), is_few(2, (4, 4)), gathered(2, (7, 7, 1, 1, 1)), spread(2, (14, 2, 1)), gathered(3, (2, 2, 2, 2, 1))]
+[True, False, False, True, False, (14, 2, 1), (7, 7, 1, 1, 1), (6, 2, 1)]
+>>> [free_parts(2, 5), few_parts(2, 5), free_parts(2, 0), spread(5, ())]
+[[(1, 1, 1, 1, 1), (3, 1, 1), (5,)], [(3, 2), (4, 1), (5,)], [()], ()]
+
+>>> from etaparts.conjugates import conjugate, hooks, is_own_conjugate, of_hooks
+>>> [conjugate((4, 3, 1)), hooks((4, 3, 1)), conjugate(()), is_own_conjugate((3, 2, 1)), hooks((3, 2, 1)), of_hooks((5, 1)), of_hooks(())]
+[(3, 2, 2, 1), (6, 2), (), True, (5, 1), (3, 2, 1), ()]
+
+>>> from etaparts.franklin import exchanged, is_kept, kept_parts, sign_count, sign_row
+>>> [exchanged((5, 4, 2)), exchanged((6, 5)), exchanged((3, 2)), exchanged((4, 3)), is_kept((4,)), kept_parts(7), kept_parts(4), kept_parts(0)]
+[(6, 5), (5, 4, 2), None, None, False, (4, 3), None, ()]
+>>> [exchanged((4,)), exchanged((3, 1)), sign_count(12), sign_row(9)]
+[(3, 1), (4,), -1, [1, -1, -1, 0, 0, 1, 0, 1, 0]]
+
+The examples of partitions and of maps that are told in words.
+
+>>> partitions(all_parts, 4)
+[((1, 0), (1, 0), (1, 0), (1, 0)), ((2, 0), (1, 0), (1, 0)), ((2, 0), (2, 0)), ((3, 0), (1, 0)), ((4, 0),)]
+>>> [is_free(2, (7, 7, 1, 1, 1)), gathered(2, (7, 7, 1, 1, 1)), conjugate((4, 3, 1)), hooks((4, 3, 1)), exchanged((5, 4, 2)), exchanged((6, 5))]
+[True, (14, 2, 1), (3, 2, 2, 1), (6, 2), (6, 5), (5, 4, 2)]
 """
 
 

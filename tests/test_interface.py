@@ -16,6 +16,17 @@ series: rows_times(row,other) row_power(row,exponent) row_at(row,d,many) section
 products: is_product(value) product_times(product,other) product_power(product,exponent) product_at(product,d)
 products: parting_place(product,other)
 kinds: is_kind(value) colours_of(kind,part) most_of(kind,part)
+kindtexts: parse_kind(text) kind_text(kind)
+powers: power_at(kind,part) period(kind) powers_row(kind,many) kind_row(kind,many) plain_kind_row(kind,many)
+powers: unlike_place(kind,other) as_product(kind)
+listing: is_partition(kind,value) partitions(kind,number) partition_count(kind,number) count_row(kind,many)
+listing: counts_by_many(kind,number)
+ranking: partition_at(kind,number,position) position_of(kind,partition) least_partition(kind,number)
+ranking: greatest_partition(kind,number) next_partition(kind,partition)
+glaisher: is_parts(value) is_free(fold,parts) is_few(fold,parts) gathered(fold,parts) spread(fold,parts)
+glaisher: free_parts(fold,total) few_parts(fold,total)
+conjugates: conjugate(parts) hooks(parts) is_own_conjugate(parts) of_hooks(parts)
+franklin: exchanged(parts) is_kept(parts) kept_parts(total) sign_count(total) sign_row(many)
 """
 
 # Values by which each function can be called by the names of its parameters.
