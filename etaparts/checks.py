@@ -26,6 +26,11 @@ def is_rising(numbers):
     return all([ahead < behind for ahead, behind in zip(numbers, numbers[1:])])
 
 
+def is_listed(value, least, most):
+    """Whether it is a list, or a tuple, with so many elements."""
+    return isinstance(value, (list, tuple)) and least <= len(value) <= most
+
+
 def is_row(value):
     if not isinstance(value, (list, tuple)) or len(value) > 3000:
         return False

@@ -51,6 +51,30 @@ WRONG_KINDS = NOT_TUPLES + [
     ("kind", 2, {0: (1, 0), 1: (1, 0)}),
 ]
 
+WRONG_RATIOS = NOT_TUPLES + [
+    (), (1,), (1, 1, 1), [1, 1], (1, 0), (0, 0), (1, -1), (-1, -1), (0, 2), (0, -1), (2, 2), (2, 4), (-3, 6), (9, 6),
+    (True, 1), (False, 1), (1, True), (2, True), (True, True), ("1", 1), (1, "1"), (None, 1), (1, None), ((1,), 1),
+    (1, (1,)), ([1], 1), (1, [1]), "11", {1: 1, 2: 1}, (10 ** 20, 10 ** 10), (b"1", 1),
+]
+
+WRONG_FORMS = NOT_TUPLES + [
+    (), ("squares",), ("squares", (1,), ()), ["squares", (1,)], ("squares", [1]), ("squares", ()), ("squares", 1),
+    ("squares", (0,)), ("squares", (-1,)), ("squares", (13,)), ("squares", (2, 1)), ("squares", (1, 3, 2)),
+    ("squares", (True,)), ("squares", (1, True)), ("squares", (False, 1)), ("squares", ("1",)), ("squares", (None,)),
+    ("squares", ((1,),)), ("squares", (1, (True,))), ("squares", "11"), ("squares", None), ("squares", {1: 1}),
+    ("squares", (1,) * 9), ("squares", (1, 1, 2, 0)), ("squares", (1, 10 ** 29)), ("Squares", (1,)), ("square", (1,)),
+    (b"squares", (1,)), (None, (1,)), (1, (1,)), ((1,), "squares"), ("product", ((1, -1),)), "squares",
+]
+WRONG_LEVELS = beyond(1, 120)
+
+
+def pair(fraction):
+    return (fraction.numerator, fraction.denominator)
+
+
+def squares(*weights):
+    return ("squares", tuple(weights))
+
 
 class Asking(unittest.TestCase):
     def told(self, error, attributes, call, *values, **named):

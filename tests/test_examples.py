@@ -79,6 +79,56 @@ The examples of partitions and of maps that are told in words.
 [((1, 0), (1, 0), (1, 0), (1, 0)), ((2, 0), (1, 0), (1, 0)), ((2, 0), (2, 0)), ((3, 0), (1, 0)), ((4, 0),)]
 >>> [is_free(2, (7, 7, 1, 1, 1)), gathered(2, (7, 7, 1, 1, 1)), conjugate((4, 3, 1)), hooks((4, 3, 1)), exchanged((5, 4, 2)), exchanged((6, 5))]
 [True, (14, 2, 1), (3, 2, 2, 1), (6, 2), (6, 5), (5, 4, 2)]
+
+>>> from etaparts.squares import is_form, plain_ways, rows_of, value_of, ways
+>>> two = ("squares", (1, 1))
+>>> [is_form(two), is_form(("squares", (2, 1))), value_of(("squares", (1, 2)), [1, -1]), ways(two, 5), plain_ways(two, 4), ways(two, 3), rows_of(two, 1)]
+[True, False, 3, 8, 4, 0, [(-1, 0), (0, -1), (0, 1), (1, 0)]]
+
+>>> from etaparts.thetas import first_unlike_ways, form_product, gaps, joined, same_ways, ways_row
+>>> [ways_row(two, 6), gaps(two, 8), joined(two, ("squares", (2,))), same_ways(two, two), first_unlike_ways(("squares", (1, 1, 2)), ("squares", (1, 2, 2)))]
+[[1, 4, 4, 0, 4, 8], [3, 6, 7], ('squares', (1, 1, 2)), True, 1]
+>>> [form_product(("squares", (1,))), form_product(("squares", (1, 2)))]
+[('product', ((1, -2), (2, 5), (4, -2))), ('product', ((1, -2), (2, 3), (4, 3), (8, -2)))]
+
+>>> from etaparts.levels import is_level, shift_of, turned, weight_of
+>>> two, all_parts = ("product", ((1, 2), (11, 2))), ("product", ((1, -1),))
+>>> [is_level(120), is_level(121), is_level(True), weight_of(two), shift_of(two), weight_of(all_parts), shift_of(all_parts)]
+[True, False, False, (2, 1), (1, 1), (-1, 2), (-1, 24)]
+>>> [turned(all_parts, 5), turned(("product", ((1, 3), (2, -1))), 4)]
+[('product', ((5, -1),)), ('product', ((2, -1), (4, 3)))]
+
+>>> from etaparts.fitting import fits, fitting_power, fitting_products, kind_of, lacks, least_level, same_kind
+>>> four, late = ("product", ((1, -4), (2, 10), (4, -4))), ("product", ((1, 1), (23, 1)))
+>>> [fits(two, 11), fits(two, 22), fits(two, 5), lacks(two, 5), lacks(all_parts, 1), lacks(four, 4)]
+[True, True, False, ['steps'], ['weight', 'shift', 'turned'], []]
+>>> [kind_of(two, 11), kind_of(four, 4), kind_of(late, 46), least_level(four), least_level(("product", ((1, 24),))), least_level(all_parts)]
+[(2, 1), (1, -1), (1, -23), 4, 1, None]
+>>> [fitting_power(all_parts, 1), fitting_power(("product", ((1, 4), (2, 4))), 2), fitting_power(two, 5), same_kind(44, two, ("product", ((2, 2), (22, 2))))]
+[24, 2, None, True]
+>>> fitting_products(2, 0, 24)
+[('product', ()), ('product', ((1, -24), (2, 24))), ('product', ((1, 24), (2, -24)))]
+
+>>> from etaparts.ends import ends, is_falling, is_whole, order_at, orders, product_with
+>>> squares = ("product", ((1, -4), (2, 10), (4, -4)))
+>>> [ends(4), orders(squares, 4), order_at(squares, 4, 2), is_whole(squares, 4), is_falling(squares, 4)]
+[[(1, 1, 4), (2, 1, 1), (4, 1, 1)], [(0, 1), (1, 2), (0, 1)], (1, 2), True, False]
+>>> [product_with(4, [(0, 1), (1, 2), (0, 1)]) == squares, product_with(4, [(0, 1), (1, 3), (0, 1)]), is_falling(("product", ((1, 24),)), 1)]
+[True, None, True]
+
+>>> from etaparts.bounds import bound_of, least_orders, sum_of_orders
+>>> [sum_of_orders(squares, 4), least_orders(4, [squares]), bound_of(4, [squares]), bound_of(1, [("product", ((1, 24),)), ("product", ((1, 24),))])]
+[(1, 2), [(0, 1), (1, 2), (0, 1)], (0, 1), (1, 1)]
+
+The examples of levels and of ends that are told in words.
+
+>>> two, four = ("product", ((1, 2), (11, 2))), ("product", ((1, -4), (2, 10), (4, -4)))
+>>> [fits(two, 11), kind_of(two, 11), fits(four, 4), kind_of(four, 4), fits(late, 23), kind_of(late, 23)]
+[True, (2, 1), True, (1, -1), True, (1, -23)]
+>>> [[level for level in range(1, 121) if fits(all_parts, level)], fitting_power(all_parts, 1), fits(("product", ((1, -24),)), 1)]
+[[], 24, True]
+>>> [ends(4), form_product(("squares", (1, 1))) == four, weight_of(four), orders(four, 4), sum_of_orders(four, 4), index_of(4)]
+[[(1, 1, 4), (2, 1, 1), (4, 1, 1)], True, (1, 1), [(0, 1), (1, 2), (0, 1)], (1, 2), 6]
 """
 
 

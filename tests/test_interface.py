@@ -27,14 +27,27 @@ glaisher: is_parts(value) is_free(fold,parts) is_few(fold,parts) gathered(fold,p
 glaisher: free_parts(fold,total) few_parts(fold,total)
 conjugates: conjugate(parts) hooks(parts) is_own_conjugate(parts) of_hooks(parts)
 franklin: exchanged(parts) is_kept(parts) kept_parts(total) sign_count(total) sign_row(many)
+squares: is_form(value) value_of(form,row) ways(form,number) plain_ways(form,number) rows_of(form,number)
+thetas: ways_row(form,many) gaps(form,many) form_product(form) joined(form,other) same_ways(form,other)
+thetas: first_unlike_ways(form,other)
+levels: is_level(value) weight_of(product) shift_of(product) turned(product,level)
+fitting: lacks(product,level) fits(product,level) kind_of(product,level) least_level(product)
+fitting: fitting_power(product,level) same_kind(level,product,other) fitting_products(level,weight,many)
+ends: ends(level) order_at(product,level,end) orders(product,level) is_whole(product,level) is_falling(product,level)
+ends: product_with(level,orders)
+bounds: sum_of_orders(product,level) least_orders(level,products) bound_of(level,products)
 """
 
 # Values by which each function can be called by the names of its parameters.
 RIGHT = {"number": 6, "value": 1, "first": 3, "second": 2, "level": 4, "prime": 7, "one": (1, 2), "other": (1, 3),
          "ratio": (1, 2), "product": ("product", ((1, -1),)), "many": 4, "place": 2, "row": [1, 2], "exponent": 2, "d": 2,
          "m": 2, "t": 1, "kind": ("kind", 1, ((1, 0),)), "part": 3, "text": "modulus 1", "partition": ((3, 0), (1, 0)),
-         "position": 1, "fold": 2, "parts": (3, 1), "total": 5}
-OTHERS = {"series": [1, 2], "products": ("product", ()), "powers": ("kind", 1, ((1, 1),))}
+         "position": 1, "fold": 2, "parts": (3, 1), "total": 5, "form": ("squares", (1, 2)), "weight": 1, "end": 2,
+         "orders": [(0, 1), (1, 2), (0, 1)], "products": [("product", ((1, -4), (2, 10), (4, -4)))]}
+# Values that are others in some files.
+FITTING = {"product": ("product", ((1, -4), (2, 10), (4, -4))), "other": ("product", ((1, -8), (2, 20), (4, -8)))}
+OTHERS = {"series": {"other": [1, 2]}, "products": {"other": ("product", ())}, "powers": {"other": ("kind", 1, ((1, 1),))},
+          "thetas": {"other": ("squares", (1, 1))}, "fitting": FITTING, "ends": FITTING, "bounds": FITTING}
 
 
 def listed():
@@ -58,9 +71,9 @@ class TestInterface(Asking):
         for file, name, parameters in listed():
             with self.subTest(file=file, name=name):
                 function = getattr(importlib.import_module("etaparts." + file), name)
-                named = {word: RIGHT[word] for word in parameters}
-                if "other" in named and file in OTHERS:
-                    named["other"] = OTHERS[file]
+                named = {word: OTHERS.get(file, {}).get(word, RIGHT[word]) for word in parameters}
+                if (file, name) == ("squares", "value_of"):
+                    named["row"] = [3, -1]
                 self.assertEqual(repr(function(**named)), repr(function(*named.values())))
 
 

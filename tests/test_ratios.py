@@ -1,21 +1,12 @@
 import unittest
 from fractions import Fraction
 
-from asking import NOT_INTEGERS, NOT_TUPLES, Asking
+from asking import NOT_INTEGERS, WRONG_RATIOS, Asking, pair
 
 from etaparts.errors import DividedByNought, InvalidNumber, InvalidRatio
 from etaparts.ratios import added, compared, divided, is_ratio, less, ratio_of, square_free, times
 
 SMALL = [(n, u) for u in range(1, 7) for n in range(-9, 10) if Fraction(n, u).denominator == u]
-WRONG_RATIOS = NOT_TUPLES + [
-    (), (1,), (1, 1, 1), [1, 1], (1, 0), (0, 0), (1, -1), (-1, -1), (0, 2), (0, -1), (2, 2), (2, 4), (-3, 6), (9, 6),
-    (True, 1), (False, 1), (1, True), (2, True), (True, True), ("1", 1), (1, "1"), (None, 1), (1, None), ((1,), 1),
-    (1, (1,)), ([1], 1), (1, [1]), "11", {1: 1, 2: 1}, (10 ** 20, 10 ** 10), (b"1", 1),
-]
-
-
-def pair(fraction):
-    return (fraction.numerator, fraction.denominator)
 
 
 def great(often):
