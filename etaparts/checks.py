@@ -62,9 +62,13 @@ def check_level(level):
         raise InvalidLevel(level)
 
 
-def check_section(m, t):
+def check_step(m):
     if not is_within(m, 1, 30):
         raise InvalidStep(m)
+
+
+def check_section(m, t):
+    check_step(m)
     if not is_within(t, 0, m - 1):
         raise InvalidRest(t)
 

@@ -2,7 +2,7 @@
 
 from math import isqrt
 
-from etaparts.checks import check_digits, check_number, is_integer, is_tagged, is_within
+from etaparts.checks import check_digits, check_number, is_integer, is_listed, is_tagged, is_within
 from etaparts.errors import InvalidForm, InvalidRow, TooMany
 
 
@@ -27,7 +27,7 @@ def value_of(form, row):
     """The sum of weight times the square of the number at the same position."""
     check_form(form)
     weights = form[1]
-    if not isinstance(row, (list, tuple)) or len(row) != len(weights) or not all([is_integer(x) for x in row]):
+    if not is_listed(row, len(weights), len(weights)) or not all([is_integer(x) for x in row]):
         raise InvalidRow(row)
     value = sum([weight * x * x for weight, x in zip(weights, row)])
     check_digits([value])

@@ -2,6 +2,8 @@
 
 import unittest
 
+from etaparts.ratios import times
+
 NOT_INTEGERS = [True, False, None, "", "1", b"1", [], [1], (), (1,), {}, {1: 1}, {1}, object()]
 NOT_TUPLES = [True, False, None, 0, 1, -1, "", "1", b"1", [], [1], {}, {1: 1}, {1}, object()]
 
@@ -67,9 +69,43 @@ WRONG_FORMS = NOT_TUPLES + [
 ]
 WRONG_LEVELS = beyond(1, 120)
 
+# Neither divisor sums nor products.
+WRONG_DIVISORS = NOT_TUPLES + [
+    (), ("divisors",), ("divisors", "two"), ("divisors", "two", 2, 2), ["divisors", "two", 2], ("divisors", ["two"], 2),
+    ("divisors", "two", 1), ("divisors", "two", 0), ("divisors", "two", 61), ("divisors", "third", 41),
+    ("divisors", "quarter", 31), ("divisors", "four", 61), ("divisors", "six", 61), ("divisors", "four", 0),
+    ("divisors", "six", -1), ("divisors", "third", 0), ("divisors", "quarter", -1), ("divisors", "five", 2),
+    ("divisors", "Two", 2), ("divisors", "", 2), ("divisors", None, 2), ("divisors", 2, 2), ("divisors", b"two", 2),
+    ("divisors", ("two",), 2), ("divisors", "four", True), ("divisors", "six", "1"), ("divisors", "six", None),
+    ("divisors", "six", (1,)), ("divisors", "six", [1]), ("divisor", "two", 2), ("Divisors", "two", 2), (None, "two", 2),
+    (b"divisors", "two", 2), ("product", "two", 2), ("two", "divisors", 2), "divisors", ("divisors", 2, "two"),
+]
+WRONG_THINGS = WRONG_PRODUCTS + WRONG_DIVISORS + [("squares", (1,)), ("sum", ())]
+WRONG_SUMS = NOT_TUPLES + [
+    (), ("sum",), ("sum", (), ()), ["sum", ()], ("sum", []), ("sum", None), ("sum", 1), ("sum", "12"), ("sum", {}),
+    ("Sum", ()), ("sums", ()), (b"sum", ()), (None, ()), ("product", ((1, -1),)), ("divisors", "two", 2), "sum",
+    ("sum", ([(1, 1), PARTS],)), ("sum", (((1, 1),),)), ("sum", (((1, 1), PARTS, PARTS),)), ("sum", ((PARTS, (1, 1)),)),
+    ("sum", ((1, PARTS),)), ("sum", (None,)), ("sum", ((0, PARTS),)), ("sum", (((0, 1), PARTS),)), ("sum", PARTS),
+    ("sum", (((2, 2), PARTS),)), ("sum", (((True, 1), PARTS),)), ("sum", (((1, True), PARTS),)), ("sum", ((None, PARTS),)),
+    ("sum", (([1, 1], PARTS),)), ("sum", (((1, 0), PARTS),)), ("sum", (((1, -1), PARTS),)), ("sum", (((1, 1), ()),)),
+    ("sum", (((1, 1), EULER), ((1, 1), EULER))), ("sum", (((1, 1), EULER), ((2, 1), EULER))),
+    ("sum", (((2, 1), EULER), ((1, 1), PARTS))), ("sum", (((1, 1), EULER), ((1, 1), PARTS))),
+    ("sum", (((1, 3), EULER), ((1, 2), PARTS))), ("sum", (((1, 1), EULER), ((-1, 1), PARTS))),
+    ("sum", (((1, 1), PARTS), ((1, 1), ("divisors", "two", 2)))),
+    ("sum", tuple([((1, 1), ("product", ((1, power),))) for power in range(1, 10)])),
+] + [("sum", (((1, 1), value),)) for value in WRONG_DIVISORS[-30:]]
+
 
 def pair(fraction):
     return (fraction.numerator, fraction.denominator)
+
+
+def great(often):
+    """10 ** (20 * often), made by the package itself."""
+    found = (1, 1)
+    for _ in range(often):
+        found = times(found, (10 ** 20, 1))
+    return found
 
 
 def squares(*weights):

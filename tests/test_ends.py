@@ -3,7 +3,8 @@ import unittest
 from fractions import Fraction
 from math import gcd
 
-from asking import (NOT_INTEGERS, PARTS, TWELVE_STEPS, WRONG_LEVELS, WRONG_PRODUCTS, WRONG_RATIOS, Asking, pair, product)
+from asking import (NOT_INTEGERS, PARTS, TWELVE_STEPS, WRONG_LEVELS, WRONG_PRODUCTS, WRONG_RATIOS, Asking, great, pair,
+                    product)
 
 from etaparts.divisors import index_of
 from etaparts.ends import ends, is_falling, is_whole, order_at, orders, product_with
@@ -11,7 +12,7 @@ from etaparts.errors import InvalidEnd, InvalidLevel, InvalidOrders, InvalidProd
 from etaparts.fitting import fits, fitting_products
 from etaparts.levels import shift_of, weight_of
 from etaparts.products import product_power, product_times
-from etaparts.ratios import ratio_of, times
+from etaparts.ratios import ratio_of
 
 GREAT, ELEVEN, FOUR = product((1, 24)), product((1, 2), (11, 2)), product((1, -4), (2, 10), (4, -4))
 # Products that fit, with a level of each.
@@ -161,6 +162,8 @@ class TestProductWith(Asking):
     def test_powers_that_are_no_integers(self):
         self.same(product_with(4, [(0, 1), (1, 3), (0, 1)]), None)
         self.same(product_with(1, [(1, 48)]), None)
+        self.same(product_with(1, [(49, 48)]), None)
+        self.same(product_with(2, [(49, 24), (1, 1)]), None)
         self.same(product_with(1, [(1, 24 * 10 ** 27)]), None)
         self.same(product_with(2, [(1, 1), (0, 1)]), product((1, 16), (2, -8)))
         self.same(product_with(2, [(1, 5), (0, 1)]), None)
@@ -192,12 +195,10 @@ class TestProductWith(Asking):
         self.same(product_with(61, [(61, 1), (1, 1)]), GREAT)
 
     def test_orders_of_many_digits(self):
-        great = (1, 1)
-        for _ in range(19):
-            great = times(great, (10 ** 20, 1))
-        self.same(product_with(2, [great, (0, 1)]), None)
-        self.same(product_with(2, [(0, 1), (1, great[0])]), None)
-        self.same(product_with(1, [great]), None)
+        long = great(19)
+        self.same(product_with(2, [long, (0, 1)]), None)
+        self.same(product_with(2, [(0, 1), (1, long[0])]), None)
+        self.same(product_with(1, [long]), None)
 
     def test_wrong_values(self):
         self.refused(InvalidLevel, WRONG_LEVELS, lambda value: product_with(value, [(0, 1)]))

@@ -129,6 +129,55 @@ The examples of levels and of ends that are told in words.
 [[], 24, True]
 >>> [ends(4), form_product(("squares", (1, 1))) == four, weight_of(four), orders(four, 4), sum_of_orders(four, 4), index_of(4)]
 [[(1, 1, 4), (2, 1, 1), (4, 1, 1)], True, (1, 1), [(0, 1), (1, 2), (0, 1)], (1, 2), 6]
+
+>>> from etaparts.divisorsums import divisor_row, divisor_total, is_divisor_sum, own_level, plain_divisor_row
+>>> [divisor_total("third", 7), divisor_total("two", 6), divisor_total("six", 2), is_divisor_sum(("divisors", "two", 1)), is_divisor_sum(("divisors", "third", 41)), own_level(("divisors", "quarter", 3))]
+[2, 12, 33, False, False, 12]
+>>> [divisor_row(("divisors", "quarter", 1), 6), divisor_row(("divisors", "two", 6), 3), plain_divisor_row(("divisors", "four", 2), 4)]
+[[(1, 1), (4, 1), (4, 1), (0, 1), (4, 1), (8, 1)], [(1, 1), (24, 5), (72, 5)], [(1, 1), (0, 1), (240, 1), (0, 1)]]
+
+>>> from etaparts.things import is_thing, thing_fits, thing_kind, thing_order, thing_row, thing_shift
+>>> delta, third = ("product", ((1, 24),)), ("divisors", "third", 2)
+>>> [thing_fits(delta, 1), thing_fits(third, 3), thing_kind(third, 12), thing_kind(delta, 1), thing_shift(delta), thing_shift(third)]
+[True, False, (1, -3), (12, 1), (1, 1), (0, 1)]
+>>> [thing_row(delta, 3), thing_row(third, 3), thing_order(delta, 2, 1), thing_order(third, 6, 2), is_thing(("divisors", "six", 0)), is_thing(delta)]
+[[(1, 1), (-24, 1), (252, 1)], [(1, 1), (0, 1), (6, 1)], (2, 1), (0, 1), False, True]
+
+>>> from etaparts.sums import is_sum, sum_added, sum_less, sum_of, sum_row, sum_scaled
+>>> three, minus, late = ("product", ((1, -8), (2, 20), (4, -8))), ("product", ((1, 8), (2, -4))), ("product", ((2, -4), (4, 8)))
+>>> jacobi = ("sum", (((-16, 1), late), ((-1, 1), minus), ((1, 1), three)))
+>>> [is_sum(jacobi), sum_of([((1, 1), three), ((-1, 1), minus), ((-16, 1), late)]) == jacobi, sum_of([((1, 2), late), ((-1, 2), late)]), sum_row(4, jacobi, 3)]
+[True, True, ('sum', ()), (0, [(0, 1), (0, 1), (0, 1)])]
+>>> [sum_scaled(("sum", (((1, 1), late),)), (-16, 1)) == ("sum", jacobi[1][:1]), sum_row(4, ("sum", (((-1, 1), minus), ((1, 1), three))), 2), sum_row(4, ("sum", jacobi[1][:1]), 1)]
+[True, (0, [(0, 1), (16, 1)]), (1, [(-16, 1)])]
+
+>>> from etaparts.equal import decided_nought, decided_same, is_nought, is_nought_paper, same_for_ever
+>>> [decided_nought(4, jacobi), decided_nought(4, ("sum", jacobi[1][1:])), is_nought(4, ("sum", ())), is_nought_paper(4, jacobi, ("nought", 4, (2, 1)))]
+[('nought', 4, (1, 1)), ('place', 1, (16, 1)), True, False]
+>>> [same_for_ever(4, ("sum", (((1, 1), three),)), ("sum", (((1, 1), minus), ((16, 1), late)))), decided_same(4, ("sum", (((1, 1), three),)), ("sum", (((1, 1), minus),)))]
+[True, ('place', 1, (16, 1))]
+
+>>> from etaparts.combined import hang_on, relations, told_as
+>>> [told_as(4, three, [minus, late]), told_as(4, three, [minus]), hang_on(4, [minus, late, three]), relations(4, [late, minus, three])]
+[[(1, 1), (16, 1)], None, [2], [(2, [(16, 1), (1, 1)])]]
+>>> [told_as(4, three, [("divisors", "two", 4)]), told_as(4, ("product", ((1, -16), (2, 40), (4, -16))), [("divisors", "four", 1), ("divisors", "four", 2), ("divisors", "four", 4)])]
+[[(1, 1)], [(1, 15), (-2, 15), (16, 15)]]
+
+>>> from etaparts.orbits import orbit, orbits, squares_of
+>>> parts, pairs = ("product", ((1, -1),)), ("product", ((1, -2),))
+>>> [squares_of(1), squares_of(5), orbit(parts, 5, 4), orbit(pairs, 5, 2), orbits(pairs, 5)]
+[[1], [1, 49], [4], [2, 4], [[0, 1], [2, 4], [3]]]
+
+>>> from etaparts.serving import least_serving, serves, why_not
+>>> [serves(parts, 5, 4, 5), serves(parts, 5, 4, 10), why_not(parts, 5, 4, 4), why_not(parts, 25, 0, 5), least_serving(parts, 25, 24), least_serving(parts, 1, 0)]
+[True, True, 1, 5, 5, 1]
+
+The examples of divisor sums and of sections that are told in words.
+
+>>> [divisor_row(("divisors", "quarter", 1), 6), ways_row(("squares", (1, 1)), 6)]
+[[(1, 1), (4, 1), (4, 1), (0, 1), (4, 1), (8, 1)], [1, 4, 4, 0, 4, 8]]
+>>> [orbit(parts, 5, 4), serves(parts, 5, 4, 5), orbit(pairs, 5, 2)]
+[[4], True, [2, 4]]
 """
 
 

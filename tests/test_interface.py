@@ -36,6 +36,17 @@ fitting: fitting_power(product,level) same_kind(level,product,other) fitting_pro
 ends: ends(level) order_at(product,level,end) orders(product,level) is_whole(product,level) is_falling(product,level)
 ends: product_with(level,orders)
 bounds: sum_of_orders(product,level) least_orders(level,products) bound_of(level,products)
+divisorsums: is_divisor_sum(value) divisor_total(word,number) own_level(divisors) divisor_row(divisors,many)
+divisorsums: plain_divisor_row(divisors,many)
+things: is_thing(value) thing_fits(thing,level) thing_kind(thing,level) thing_shift(thing) thing_row(thing,many)
+things: thing_order(thing,level,end)
+sums: is_sum(value) sum_of(terms) sum_added(total,other) sum_less(total,other) sum_scaled(total,ratio)
+sums: sum_row(level,total,many)
+equal: decided_nought(level,total) is_nought(level,total) is_nought_paper(level,total,value)
+equal: same_for_ever(level,total,other) decided_same(level,total,other)
+combined: told_as(level,thing,others) hang_on(level,things) relations(level,things)
+orbits: orbit(product,m,t) orbits(product,m) squares_of(m)
+serving: serves(product,m,t,level) why_not(product,m,t,level) least_serving(product,m,t)
 """
 
 # Values by which each function can be called by the names of its parameters.
@@ -43,11 +54,15 @@ RIGHT = {"number": 6, "value": 1, "first": 3, "second": 2, "level": 4, "prime": 
          "ratio": (1, 2), "product": ("product", ((1, -1),)), "many": 4, "place": 2, "row": [1, 2], "exponent": 2, "d": 2,
          "m": 2, "t": 1, "kind": ("kind", 1, ((1, 0),)), "part": 3, "text": "modulus 1", "partition": ((3, 0), (1, 0)),
          "position": 1, "fold": 2, "parts": (3, 1), "total": 5, "form": ("squares", (1, 2)), "weight": 1, "end": 2,
-         "orders": [(0, 1), (1, 2), (0, 1)], "products": [("product", ((1, -4), (2, 10), (4, -4)))]}
+         "orders": [(0, 1), (1, 2), (0, 1)], "products": [("product", ((1, -4), (2, 10), (4, -4)))],
+         "word": "two", "divisors": ("divisors", "two", 4), "thing": ("divisors", "two", 4),
+         "terms": [((1, 2), ("divisors", "two", 4))], "others": [("divisors", "two", 2)], "things": [("divisors", "two", 2)]}
 # Values that are others in some files.
 FITTING = {"product": ("product", ((1, -4), (2, 10), (4, -4))), "other": ("product", ((1, -8), (2, 20), (4, -8)))}
+TOTALS = {"total": ("sum", (((1, 2), ("divisors", "two", 4)),)), "other": ("sum", (((1, 2), ("divisors", "two", 2)),))}
 OTHERS = {"series": {"other": [1, 2]}, "products": {"other": ("product", ())}, "powers": {"other": ("kind", 1, ((1, 1),))},
-          "thetas": {"other": ("squares", (1, 1))}, "fitting": FITTING, "ends": FITTING, "bounds": FITTING}
+          "thetas": {"other": ("squares", (1, 1))}, "fitting": FITTING, "ends": FITTING, "bounds": FITTING,
+          "sums": TOTALS, "equal": TOTALS}
 
 
 def listed():

@@ -1,20 +1,12 @@
 import unittest
 from fractions import Fraction
 
-from asking import NOT_INTEGERS, WRONG_RATIOS, Asking, pair
+from asking import NOT_INTEGERS, WRONG_RATIOS, Asking, great, pair
 
 from etaparts.errors import DividedByNought, InvalidNumber, InvalidRatio
 from etaparts.ratios import added, compared, divided, is_ratio, less, ratio_of, square_free, times
 
 SMALL = [(n, u) for u in range(1, 7) for n in range(-9, 10) if Fraction(n, u).denominator == u]
-
-
-def great(often):
-    """10 ** (20 * often), made by the package itself."""
-    found = (1, 1)
-    for _ in range(often):
-        found = times(found, (10 ** 20, 1))
-    return found
 
 
 class TestIsRatio(Asking):

@@ -1,7 +1,7 @@
 import itertools
 import unittest
 
-from asking import WRONG_FORMS, Asking, beyond, squares
+from asking import WRONG_FORMS, Asking, beyond, great, squares
 
 from etaparts.errors import InvalidForm, InvalidNumber, InvalidRow
 from etaparts.ratios import times
@@ -45,17 +45,15 @@ class TestValue(Asking):
         self.told(InvalidRow, {"value": [1] * 9}, value_of, EIGHT, [1] * 9)
 
     def test_digits(self):
-        great = (1, 1)
-        for _ in range(10):
-            great = times(great, (10 ** 20, 1))
         # 200 digits behind the first one: the square of the number has 401.
-        self.assertEqual(great[0], 10 ** 200)
-        self.too_many("digits", 400, value_of, TWO, [great[0], 0])
-        self.too_many("digits", 400, value_of, TWO, [0, -great[0]])
-        lesser = times(great, (1, 10))[0]
+        long = great(10)[0]
+        self.assertEqual(long, 10 ** 200)
+        self.too_many("digits", 400, value_of, TWO, [long, 0])
+        self.too_many("digits", 400, value_of, TWO, [0, -long])
+        lesser = times(great(10), (1, 10))[0]
         self.same(value_of(TWO, [lesser, 1]), 10 ** 398 + 1)
         self.same(value_of(squares(12), [lesser]), 12 * 10 ** 398)
-        self.told(InvalidRow, {"value": [great[0]]}, value_of, TWO, [great[0]])
+        self.told(InvalidRow, {"value": [long]}, value_of, TWO, [long])
 
 
 class TestWays(Asking):
