@@ -71,11 +71,15 @@ def plain_ways(form, number):
 
 def listed_ways(weights, left):
     """How many rows by these weights have the value left, listed number by number."""
-    if len(weights) == 0:
-        return 1 if left == 0 else 0
     weight = weights[0]
+    root = isqrt(left // weight)
+    if len(weights) == 1:
+        # The last number is told by what is left, but for its sign.
+        if weight * root * root != left:
+            return 0
+        return 1 if root == 0 else 2
     found = listed_ways(weights[1:], left)
-    for x in range(1, isqrt(left // weight) + 1):
+    for x in range(1, root + 1):
         # What follows behind -x is what follows behind x.
         found += 2 * listed_ways(weights[1:], left - weight * x * x)
     return found

@@ -224,6 +224,7 @@ class TestSame(Asking):
         other = a_sum(*[((1, 1), thing) for thing in many[8:]])
         self.too_many("terms", 8, decided_same, 6, one, nine)
         self.too_many("terms", 8, decided_same, 6, one, other)
+        self.told(NotFitting, {}, decided_same, 3, one, other)
         self.same(decided_same(6, one, one), ("nought", 6, (0, 1)))
         self.same(decided_same(6, one, a_sum(*[((1, 1), thing) for thing in many[1:8]]))[0], "place")
         # No bound for the terms is told of the bare question.
