@@ -1,6 +1,7 @@
 """What more than one file asks of the values that it is passed."""
 
-from etaparts.errors import InvalidLevel, InvalidMany, InvalidNumber, InvalidRest, InvalidRow, InvalidStep, TooMany
+from etaparts.errors import InvalidDivisor, InvalidLevel, InvalidMany, InvalidNumber, InvalidRest, InvalidRow
+from etaparts.errors import InvalidStep, TooMany
 
 
 def is_integer(value):
@@ -71,6 +72,11 @@ def check_section(m, t):
     check_step(m)
     if not is_within(t, 0, m - 1):
         raise InvalidRest(t)
+
+
+def check_divisor(u):
+    if not is_within(u, 2, 1000):
+        raise InvalidDivisor(u)
 
 
 def check_digits(numbers):

@@ -10,7 +10,7 @@ def divisors_of(number):
     """The rising list of the divisors."""
     check_number(number, 1, 1000000)
     low = [divisor for divisor in range(1, isqrt(number) + 1) if number % divisor == 0]
-    high = [number // divisor for divisor in reversed(low) if divisor * divisor != number]
+    high = [number // divisor for divisor in low[::-1] if divisor * divisor != number]
     return low + high
 
 

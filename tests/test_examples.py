@@ -178,6 +178,54 @@ The examples of divisor sums and of sections that are told in words.
 [[(1, 1), (4, 1), (4, 1), (0, 1), (4, 1), (8, 1)], [1, 4, 4, 0, 4, 8]]
 >>> [orbit(parts, 5, 4), serves(parts, 5, 4, 5), orbit(pairs, 5, 2)]
 [[4], True, [2, 4]]
+
+>>> from etaparts.lows import low, lows
+>>> [low(parts, 5, 1), low(parts, 5, 5), lows(parts, 1, 2), low(("product", ((1, 24),)), 1, 3)]
+[(-5, 24), (-1, 120), [(1, (-1, 24)), (2, (-1, 24))], (1, 1)]
+
+>>> from etaparts.clearing import bound, is_clearing, least_power, told_clearing
+>>> parts, threes = ("product", ((1, -1),)), ("product", ((1, -3),))
+>>> [is_clearing(parts, 5, 5, (1, 5)), is_clearing(parts, 5, 5, (1, 4)), least_power(parts, 5, 5, 5), bound(parts, 5, 4, 5, (1, 5)), told_clearing(parts, 7, 5), told_clearing(threes, 3, 2)]
+[True, False, 25, (0, 1), (7, 1, 7, (1, 1)), (3, 1, 9, (0, 1))]
+
+>>> from etaparts.dividing import decided_dividing, is_dividing, is_dividing_paper, orbit_numbers
+>>> [decided_dividing(parts, 5, 4, 5), decided_dividing(parts, 5, 4, 25), decided_dividing(parts, 5, 3, 5), is_dividing(threes, 3, 2, 9)]
+[('divisible', 5, 1, 5), ('place', 4, 0, 5), ('place', 0, 0, 1), True]
+>>> [orbit_numbers(parts, 5, 4, 3), is_dividing_paper(parts, 5, 4, 5, ("divisible", 5, 1, 6)), is_dividing_paper(parts, 5, 4, 5, ("divisible", 5, 1, 4)), is_dividing_paper(parts, 5, 4, 25, ("place", 4, 2, 135))]
+[[(4, [5, 30, 135])], True, False, True]
+
+>>> from etaparts.searching import divisors_told, first_dividing, follows, greatest_divisor, least_dividing
+>>> partitions = ("product", ((1, -1),))
+>>> [greatest_divisor(partitions, 5, 4), divisors_told(partitions, 5, 4, 20), greatest_divisor(partitions, 5, 3), least_dividing(partitions, 5, 5), first_dividing(partitions, 4, 5)]
+[5, [5], 1, [(5, 4)], None]
+>>> [follows((10, 9), (5, 4)), follows((10, 8), (5, 4)), follows((5, 4), (5, 4))]
+[True, False, False]
+
+>>> from etaparts.tables import is_find, is_table, table
+>>> [row[:2] for row in table(partitions, 5, 5)]
+[(2, (0, 1)), (3, (0, 1, 2)), (4, (0, 1, 2, 3)), (5, (0, 3)), (5, (1, 2)), (5, (4,))]
+>>> [is_table(partitions, 5, 5, table(partitions, 5, 5)), table(partitions, 2, 5), is_find(partitions, 5, (5, 3, 5, 1, 0))]
+[True, [(2, (0, 1), ('place', 0, 0, 1))], False]
+
+>>> from etaparts.equations import decided_equation, equation_bound, is_equation_paper, is_terms, serves_equation, sides
+>>> five = ((5, ("product", ((1, -6), (5, 5)))),)
+>>> [is_terms(all_parts, 5, 4, five), is_terms(all_parts, 5, 3, five), serves_equation(all_parts, 5, 4, five, 5), serves_equation(all_parts, 5, 4, five, 7), equation_bound(all_parts, 5, 4, five, 5)]
+[True, False, True, False, (0, 1)]
+>>> [sides(all_parts, 5, 4, five, 0), sides(all_parts, 5, 4, five, 1), decided_equation(all_parts, 5, 4, five)]
+[(5, 5), (30, 30), ('holds', 5)]
+>>> [decided_equation(all_parts, 5, 4, ((4,) + five[0][1:],)), is_equation_paper(all_parts, 5, 4, five, ("holds", 10)), is_equation_paper(all_parts, 5, 4, five, ("holds", 7))]
+[('place', 0, 5, 4), True, False]
+
+The examples of lows, of what is divisible and of equations that are told in words.
+
+>>> partitions = ("product", ((1, -1),))
+>>> [low(partitions, 5, 1), low(partitions, 5, 5), orbits(partitions, 5), is_dividing(partitions, 5, 4, 5), is_dividing(partitions, 5, 3, 5)]
+[(-5, 24), (-1, 120), [[0, 3], [1, 2], [4]], True, False]
+>>> [told_clearing(partitions, 5, 4), orbit_numbers(partitions, 5, 4, 1), told_clearing(partitions, 7, 5), orbit_numbers(partitions, 7, 5, 2)]
+[(5, 1, 5, (0, 1)), [(4, [5])], (7, 1, 7, (1, 1)), [(5, [7, 77])]]
+>>> seven = ((7, ("product", ((1, -4), (7, 3)))), (49, ("product", ((1, -8), (7, 7)))))
+>>> [equation_bound(partitions, 7, 5, seven, 7), decided_equation(partitions, 7, 5, seven)]
+[(24, 1), ('holds', 7)]
 """
 
 

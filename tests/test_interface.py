@@ -47,6 +47,17 @@ equal: same_for_ever(level,total,other) decided_same(level,total,other)
 combined: told_as(level,thing,others) hang_on(level,things) relations(level,things)
 orbits: orbit(product,m,t) orbits(product,m) squares_of(m)
 serving: serves(product,m,t,level) why_not(product,m,t,level) least_serving(product,m,t)
+lows: low(product,m,end) lows(product,m,level)
+clearing: is_clearing(product,m,level,value) least_power(product,m,level,step) bound(product,m,t,level,clearing)
+clearing: told_clearing(product,m,t)
+dividing: decided_dividing(product,m,t,u) is_dividing_paper(product,m,t,u,value) is_dividing(product,m,t,u)
+dividing: orbit_numbers(product,m,t,many)
+searching: greatest_divisor(product,m,t) divisors_told(product,m,t,most) all_dividing(product,most,u)
+searching: least_dividing(product,most,u) first_dividing(product,most,u) follows(section,other)
+tables: table(product,most,u) is_table(product,most,u,value) is_find(product,u,value)
+equations: is_terms(product,m,t,value) serves_equation(product,m,t,terms,level)
+equations: equation_bound(product,m,t,terms,level) sides(product,m,t,terms,n) decided_equation(product,m,t,terms)
+equations: is_equation_paper(product,m,t,terms,value)
 """
 
 # Values by which each function can be called by the names of its parameters.
@@ -56,13 +67,16 @@ RIGHT = {"number": 6, "value": 1, "first": 3, "second": 2, "level": 4, "prime": 
          "position": 1, "fold": 2, "parts": (3, 1), "total": 5, "form": ("squares", (1, 2)), "weight": 1, "end": 2,
          "orders": [(0, 1), (1, 2), (0, 1)], "products": [("product", ((1, -4), (2, 10), (4, -4)))],
          "word": "two", "divisors": ("divisors", "two", 4), "thing": ("divisors", "two", 4),
-         "terms": [((1, 2), ("divisors", "two", 4))], "others": [("divisors", "two", 2)], "things": [("divisors", "two", 2)]}
+         "terms": [((1, 2), ("divisors", "two", 4))], "others": [("divisors", "two", 2)], "things": [("divisors", "two", 2)],
+         "u": 5, "most": 3, "section": (10, 9), "n": 3, "step": 2, "clearing": (2, 40)}
 # Values that are others in some files.
 FITTING = {"product": ("product", ((1, -4), (2, 10), (4, -4))), "other": ("product", ((1, -8), (2, 20), (4, -8)))}
 TOTALS = {"total": ("sum", (((1, 2), ("divisors", "two", 4)),)), "other": ("sum", (((1, 2), ("divisors", "two", 2)),))}
+SECTION = {"m": 5, "t": 4, "level": 5, "step": 5, "clearing": (1, 5), "terms": ((5, ("product", ((1, -6), (5, 5)))),)}
 OTHERS = {"series": {"other": [1, 2]}, "products": {"other": ("product", ())}, "powers": {"other": ("kind", 1, ((1, 1),))},
           "thetas": {"other": ("squares", (1, 1))}, "fitting": FITTING, "ends": FITTING, "bounds": FITTING,
-          "sums": TOTALS, "equal": TOTALS}
+          "sums": TOTALS, "equal": TOTALS, "clearing": SECTION, "dividing": SECTION, "searching": {"m": 5, "t": 4, "other": (5, 4)},
+          "equations": SECTION}
 
 
 def listed():

@@ -49,6 +49,8 @@ def bound_names(tree):
             names.append(node.name)
         elif isinstance(node, ast.arg):
             names.append(node.arg)
+        elif isinstance(node, ast.ExceptHandler) and node.name is not None:
+            names.append(node.name)
         elif isinstance(node, ast.ImportFrom):
             names += [alias.asname or alias.name for alias in node.names]
     return names
