@@ -226,6 +226,59 @@ The examples of lows, of what is divisible and of equations that are told in wor
 >>> seven = ((7, ("product", ((1, -4), (7, 3)))), (49, ("product", ((1, -8), (7, 7)))))
 >>> [equation_bound(partitions, 7, 5, seven, 7), decided_equation(partitions, 7, 5, seven)]
 [(24, 1), ('holds', 7)]
+
+>>> from etaparts.looking import candidates, found_terms, looked
+>>> seven = [("product", ((1, -4), (7, 3))), ("product", ((1, -8), (7, 7)))]
+>>> [found_terms(all_parts, 7, 5, seven) == ((7, seven[0]), (49, seven[1])), found_terms(all_parts, 7, 5, seven[:1]), candidates(all_parts, 5, 4, 5, 6), looked(all_parts, 5, 4, 5, 6) == five]
+[True, None, [(0, ('product', ((1, -6), (5, 5))))], True]
+
+>>> from etaparts.hecke import carried_row, placed_row, places_asked, symbol_at
+>>> great, two = ("product", ((1, 24),)), ("product", ((1, 2), (11, 2)))
+>>> [placed_row(1, great, 5), carried_row(1, great, 3, 3), symbol_at(1, great, 3), places_asked(1, great)]
+[[0, 1, -24, 252, -1472], [0, 252, -6048], 1, 1]
+>>> [placed_row(11, two, 10), carried_row(11, two, 3, 4), places_asked(11, two)]
+[[0, 1, -2, -1, 2, 1, 2, -2, 0, -2], [0, -1, 2, 1], 2]
+
+>>> from etaparts.multiples import decided_multiple, is_multiple, multiples_to, told_by_primes
+>>> [decided_multiple(1, great, 3), decided_multiple(1, ("product", ((1, 48),)), 3), is_multiple(11, two, 3, -1), is_multiple(11, two, 3, 1)]
+[('multiple', 252), ('place', 1, -48), True, False]
+>>> [multiples_to(11, two, 5), told_by_primes(1, great, 9), told_by_primes(1, great, 15), told_by_primes(11, two, 27)]
+[[(3, -1), (5, 1)], -113643, 1217160, 5]
+
+>>> from etaparts.judge import claim_words, is_claim, judged
+>>> parts = ("product", ((1, -1),))
+>>> [judged(("dividing", parts, 5, 4, 5, 5, 1, 5)), judged(("spoilt", parts, 5, 3, 5, 3, 0)), judged(("spoilt", parts, 5, 4, 5, 4, 0)), judged(None), is_claim(("ways", 5, 5)), claim_words()[:2]]
+[('ok', 'dividing'), ('ok', 'spoilt'), ('bad', ()), ('bad', ()), True, [('dividing', 7), ('kinds', 2)]]
+>>> [judged(("nought", 1, ("sum", (((1, 1), ("product", ((1, 24),))),)))), judged(("nought", 1, ("sum", ())))]
+[('bad', (1,)), ('ok', 'nought')]
+
+>>> from etaparts.records import check_of, parse_record, record_text, tree_text
+>>> [tree_text(("sum", (-3, ()))), check_of("ab"), parse_record(record_text(("ways", 5, 5)))]
+['(sum (-3 ()))', 3105, ('ways', 5, 5)]
+
+>>> from etaparts.commands import is_command, is_deed, powers_text, ratio_text
+>>> [is_command("product p 1:-6,5:5"), is_command("product p 1:-0"), is_command("term s 2/4 p"), is_command("term s -1/2 p"), is_command("kind k modulus 1"), is_deed("row k 5"), is_deed("drop k"), powers_text(("product", ((1, -6), (5, 5)))), powers_text(("product", ())), ratio_text((-1, 24))]
+[True, False, False, True, True, False, True, '1:-6,5:5', '1', '-1/24']
+
+>>> from etaparts.desk import Desk
+>>> desk = Desk()
+>>> desk.do_all("kind k modulus 1\nparts all", "count p k", "show p", "row k 6", "numbers p 6", "divides p 5 4 5", "sum s", "term s 1 p", "term s -1/2 p", "show s", "undo", "show s")
+['-', '-', '1:-1', '1 1 2 3 5 7', '1 1 2 3 5 7', 'ever 5 1 5', '-', '-', '-', '1/2 1:-1', 'term s -1/2 p', '1 1:-1']
+
+The examples of equations, primes and commands that are told in words.
+
+>>> partitions, tau = ("product", ((1, -1),)), ("product", ((1, 24),))
+>>> [placed_row(1, tau, 7)[1:], decided_multiple(1, tau, 3), placed_row(1, ("product", ((1, 48),)), 3), decided_multiple(1, ("product", ((1, 48),)), 3)]
+[[1, -24, 252, -1472, 4830, -6048], ('multiple', 252), [0, 0, 1], ('place', 1, -48)]
+>>> decided_multiple(11, ("product", ((1, 2), (11, 2))), 3)
+('multiple', -1)
+>>> [looked(partitions, 5, 4, 5, 6), looked(partitions, 7, 5, 7, 8)]
+[((5, ('product', ((1, -6), (5, 5)))),), ((7, ('product', ((1, -4), (7, 3)))), (49, ('product', ((1, -8), (7, 7)))))]
+>>> desk = Desk()
+>>> desk.do_all("kind k modulus 4\nparts 1 2 3\nmost 1 2", "count p k")
+['-', '-']
+>>> desk("row k 50") == desk("numbers p 50")
+True
 """
 
 

@@ -1,5 +1,6 @@
 """The names, files and parameters of the interface, as far as it has landed."""
 
+import copy
 import importlib
 import inspect
 import unittest
@@ -58,6 +59,14 @@ tables: table(product,most,u) is_table(product,most,u,value) is_find(product,u,v
 equations: is_terms(product,m,t,value) serves_equation(product,m,t,terms,level)
 equations: equation_bound(product,m,t,terms,level) sides(product,m,t,terms,n) decided_equation(product,m,t,terms)
 equations: is_equation_paper(product,m,t,terms,value)
+looking: found_terms(product,m,t,products) candidates(product,m,t,level,many) looked(product,m,t,level,many)
+hecke: placed_row(level,product,many) carried_row(level,product,prime,many) symbol_at(level,product,prime)
+hecke: places_asked(level,product)
+multiples: decided_multiple(level,product,prime) is_multiple(level,product,prime,number) multiples_to(level,product,most)
+multiples: told_by_primes(level,product,target)
+judge: judged(value) is_claim(value) claim_words()
+records: tree_text(value) record_text(claim) parse_record(text) check_of(text)
+commands: is_command(value) is_deed(value) powers_text(product) ratio_text(ratio)
 """
 
 # Values by which each function can be called by the names of its parameters.
@@ -68,15 +77,18 @@ RIGHT = {"number": 6, "value": 1, "first": 3, "second": 2, "level": 4, "prime": 
          "orders": [(0, 1), (1, 2), (0, 1)], "products": [("product", ((1, -4), (2, 10), (4, -4)))],
          "word": "two", "divisors": ("divisors", "two", 4), "thing": ("divisors", "two", 4),
          "terms": [((1, 2), ("divisors", "two", 4))], "others": [("divisors", "two", 2)], "things": [("divisors", "two", 2)],
-         "u": 5, "most": 3, "section": (10, 9), "n": 3, "step": 2, "clearing": (2, 40)}
+         "u": 5, "most": 3, "section": (10, 9), "n": 3, "step": 2, "clearing": (2, 40),
+         "claim": ("ways", 1, ()), "target": 15}
 # Values that are others in some files.
 FITTING = {"product": ("product", ((1, -4), (2, 10), (4, -4))), "other": ("product", ((1, -8), (2, 20), (4, -8)))}
 TOTALS = {"total": ("sum", (((1, 2), ("divisors", "two", 4)),)), "other": ("sum", (((1, 2), ("divisors", "two", 2)),))}
 SECTION = {"m": 5, "t": 4, "level": 5, "step": 5, "clearing": (1, 5), "terms": ((5, ("product", ((1, -6), (5, 5)))),)}
+CARRIED = {"level": 1, "product": ("product", ((1, 24),)), "target": 15}
 OTHERS = {"series": {"other": [1, 2]}, "products": {"other": ("product", ())}, "powers": {"other": ("kind", 1, ((1, 1),))},
           "thetas": {"other": ("squares", (1, 1))}, "fitting": FITTING, "ends": FITTING, "bounds": FITTING,
           "sums": TOTALS, "equal": TOTALS, "clearing": SECTION, "dividing": SECTION, "searching": {"m": 5, "t": 4, "other": (5, 4)},
-          "equations": SECTION}
+          "equations": SECTION, "looking": {**SECTION, "products": [("product", ((1, -6), (5, 5)))]}, "hecke": CARRIED,
+          "multiples": CARRIED, "records": {"text": "etaparts ways\n1\n()\nend 3 9051\n"}}
 
 
 def listed():
@@ -84,7 +96,21 @@ def listed():
         file, functions = line.split(": ")
         for function in functions.split():
             name, parameters = function.rstrip(")").split("(")
-            yield file, name, parameters.split(",")
+            yield file, name, parameters.split(",") if parameters else []
+
+
+def is_told_new(value):
+    """Whether no list stands anywhere in it twice."""
+    found = lists_in(value)
+    return len({id(one) for one in found}) == len(found)
+
+
+def lists_in(value):
+    found = [value] if isinstance(value, list) else []
+    if isinstance(value, (list, tuple)):
+        for part in value:
+            found += lists_in(part)
+    return found
 
 
 class TestInterface(Asking):
@@ -104,6 +130,22 @@ class TestInterface(Asking):
                 if (file, name) == ("squares", "value_of"):
                     named["row"] = [3, -1]
                 self.assertEqual(repr(function(**named)), repr(function(*named.values())))
+                self.nothing_passed_changes(function, named)
+
+    def nothing_passed_changes(self, function, named):
+        """What is passed stays as it is, and is no part of the answer; a call told again tells an equal answer."""
+        ahead = copy.deepcopy(named)
+        first, second = function(**named), function(**named)
+        self.assertEqual(repr(first), repr(second))
+        self.assertEqual(repr(named), repr(ahead))
+        found = lists_in(first)
+        self.assertTrue(is_told_new(first))
+        passed = [id(one) for value in named.values() for one in lists_in(value)]
+        for one in found:
+            self.assertNotIn(id(one), passed)
+            self.assertNotIn(id(one), [id(other) for other in lists_in(second)])
+            one.append("more")
+        self.assertEqual(repr(function(**named)), repr(second))
 
 
 if __name__ == "__main__":

@@ -56,6 +56,12 @@ def bound_names(tree):
     return names
 
 
+def own_methods():
+    """The names of the methods of the package's classes, but for those of errors."""
+    return [part.name for _, tree in trees() for node in tree.body if isinstance(node, ast.ClassDef)
+            for part in node.body if isinstance(part, ast.FunctionDef) and part.name != "__init__"]
+
+
 def is_plain(node):
     """Whether a value at module level is a plain one."""
     if isinstance(node, (ast.List, ast.Tuple)):
@@ -195,14 +201,44 @@ class TestLanguage(unittest.TestCase):
                             self.assertNotIn(word, node.value.split(), name)
 
     def test_calls(self):
+        allowed = METHODS + own_methods()
         for name, tree in trees():
             for node in ast.walk(tree):
                 if isinstance(node, ast.Attribute):
                     self.assertNotIn(node.attr, UNUSED_NAMES, name)
                 if isinstance(node, ast.Call) and isinstance(node.func, ast.Attribute):
-                    self.assertIn(node.func.attr, METHODS, (name, node.lineno))
+                    self.assertIn(node.func.attr, allowed, (name, node.lineno))
                 if isinstance(node, ast.Call):
                     self.assertIsInstance(node.func, (ast.Name, ast.Attribute), (name, node.lineno))
+
+    def test_what_a_class_with_operators_asks_of_all_files(self):
+        operators = ("__getitem__", "__contains__", "__len__")
+        self.assertTrue(all(word in own_methods() for word in operators + ("__iter__",)))
+        for name, tree in trees():
+            text = text_of(name)
+            self.assertFalse("(type)" in text or "Meta" in text or "metaclass=" in text, name)
+            for node in ast.walk(tree):
+                if isinstance(node, ast.Call) and isinstance(node.func, ast.Attribute):
+                    self.assertNotIn(node.func.attr, ("sort",), (name, node.lineno))
+                if isinstance(node, ast.Call) and isinstance(node.func, ast.Name) and node.func.id == "reversed":
+                    self.assertIn(getattr(getattr(node.args[0], "func", None), "id", ""), ("list", "tuple", "sorted", "range"), name)
+                if isinstance(node, ast.Call) and isinstance(node.func, ast.Name) and node.func.id == "sorted":
+                    self.assertNotIsInstance(node.args[0], ast.GeneratorExp, name)
+                if isinstance(node, ast.FunctionDef) and node.name in operators:
+                    for part in ast.walk(node):
+                        self.assertNotIsInstance(part, (ast.Assign, ast.AugAssign, ast.For, ast.Delete), (name, node.name))
+                if isinstance(node, ast.FunctionDef) and node.name == "__len__":
+                    self.assertEqual(node.body[-1].value.func.id, "len", name)
+                if isinstance(node, ast.ClassDef):
+                    self.assertNotIn("keys", [part.name for part in node.body if isinstance(part, ast.FunctionDef)], name)
+
+    def test_library_names_stay_out_of_tries(self):
+        for name, tree in trees():
+            for node in ast.walk(tree):
+                if isinstance(node, ast.ExceptHandler):
+                    words = [part.id for part in ast.walk(node.type) if isinstance(part, ast.Name)]
+                    self.assertTrue(all(word.endswith("Error") or word in ("TooMany", "NotFitting") for word in words), name)
+                    self.assertFalse(any(hasattr(builtins, word) for word in words), (name, words))
 
     def test_generators_stand_in_calls(self):
         allowed = "list tuple dict sorted sum min max any all join".split()
