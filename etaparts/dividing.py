@@ -42,8 +42,8 @@ def told_last(product, m, t):
 
 
 def is_beyond(m, rests, last):
-    """Whether the numbers of these sections to the last n, if there are any, need a place beyond 3,000."""
-    return last >= 0 and m * last + rests[-1] > 3000
+    """Whether the numbers of these sections to the last n need a place beyond 3,000."""
+    return m * last + rests[-1] > 3000
 
 
 def first_spoilt(product, m, rests, u, last):

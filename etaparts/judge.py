@@ -96,7 +96,7 @@ def wrong_in_dividing(product, m, t, u, level, d, a):
 
 
 def wrong_in_spoilt(product, m, t, u, rest, n):
-    if not is_section(product, m, t, u) or not is_integer(rest) or rest not in orbit_of(product, m, t):
+    if not is_section(product, m, t, u) or rest not in orbit_of(product, m, t):
         return ()
     if not is_within(n, 0, 3000) or m * n + rest > 3000:
         return ()
@@ -104,7 +104,7 @@ def wrong_in_spoilt(product, m, t, u, rest, n):
 
 
 def wrong_in_ways(form, product):
-    if not is_form(form) or not is_product(product):
+    if not is_form(form):
         return ()
     try:
         told = form_product(form)

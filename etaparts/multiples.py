@@ -85,8 +85,9 @@ def told_by_primes(level, product, target):
     """b(target), told by the numbers at its primes alone."""
     check_level(level)
     check_product(product)
-    if not is_within(target, 1, 1000000000) or target % 2 == 0:
+    if not is_within(target, 1, 1000000000):
         raise InvalidTarget(target)
+    # An even target has the prime 2, which never serves.
     primes = factored(target)
     if not all([is_serving_prime(level, prime) for prime, _ in primes]):
         raise InvalidTarget(target)

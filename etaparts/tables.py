@@ -53,7 +53,7 @@ def is_line(value, m, rests):
 
 def is_true(product, m, rests, u, answer):
     if is_tagged(answer, "untold", 2):
-        return isinstance(answer[1], str) and answer == answer_told(product, m, rests[0], u)
+        return answer == answer_told(product, m, rests[0], u)
     if is_tagged(answer, "place", 4):
         return is_right_place(product, m, rests, u, answer)
     return is_dividing_paper(product, m, rests[0], u, answer)

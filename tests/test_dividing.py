@@ -1,14 +1,14 @@
 import unittest
 from fractions import Fraction
 
-from asking import NOT_TUPLES, PARTS, WRONG_PRODUCTS, Asking, beyond, product
+from asking import EULER, NOT_TUPLES, PARTS, WRONG_PRODUCTS, Asking, beyond, product
 from dividing_plainly import MANY, PAIRS, SQUARES, TAU, THREES
 
 from etaparts.clearing import bound, told_clearing
 from etaparts.dividing import decided_dividing, is_dividing, is_dividing_paper, orbit_numbers
 from etaparts.errors import InvalidDivisor, InvalidMany, InvalidProduct, InvalidRest, InvalidStep, TooMany
 from etaparts.orbits import orbit, orbits
-from etaparts.series import plain_row, product_row
+from etaparts.series import numbers_of, plain_row, product_row
 
 # The one is divisible for ever by no u; of the others the bound is at 200, the last place at 3,000 or beyond it.
 AT_200, JUST_ABOVE = product((1, -44)), product((1, -31))
@@ -98,6 +98,13 @@ class TestDecided(Asking):
                         self.assertEqual(number, row[m * n + rest])
                         wrong = [(k, other) for k in range(n + 1) for other in rests if row[m * k + other] % u]
                         self.assertEqual(min(wrong), (n, rest))
+
+    def test_spoilt_late(self):
+        for one, m, t, u in ((product((1, -15)), 9, 4, 5), (product((1, 20)), 11, 1, 2), (product((1, 21)), 11, 6, 7)):
+            row = product_row(one, 120)[t::m]
+            self.assertTrue(all(number % u == 0 for number in row[:9]))
+            self.same(decided_dividing(one, m, t, u), ("place", t, 9, row[9]))
+            self.no(is_dividing(one, m, t, u))
 
     def test_no_place_at_all(self):
         self.same(told_clearing(product(), 2, 1)[3], (-1, 2))
@@ -212,10 +219,13 @@ class TestPapers(Asking):
         u = [u for u in range(2, 20) if number % u][0]
         self.yes(is_dividing_paper(product((3, -1)), 15, 0, u, ("place", 0, 200, number)))
         self.no(is_dividing_paper(product((3, -1)), 15, 0, u, ("place", 0, 200, number + u)))
-        # 3,002 is beyond.
-        self.assertIn(2, orbit(product((1, -1), (2, 1)), 15, 2))
-        for number in (1, 2, 3):
-            self.no(is_dividing_paper(product(), 16, 0, 2, ("place", 0, 188, number)))
+        # 3,001 is beyond.
+        one = product((1, -24))
+        self.assertEqual(orbit(one, 25, 1), [1])
+        row = numbers_of(one, 3002)
+        u = [u for u in range(2, 50) if row[3001] % u and row[2976] % u][0]
+        self.yes(is_dividing_paper(one, 25, 1, u, ("place", 1, 119, row[2976])))
+        self.no(is_dividing_paper(one, 25, 1, u, ("place", 1, 120, row[3001])))
 
     def test_no_level_serves(self):
         self.yes(is_dividing_paper(PARTS, 6, 0, 2, ("place", 0, 0, 1)))
@@ -264,6 +274,8 @@ class TestOrbitNumbers(Asking):
         self.same(len(orbit_numbers(product(), 30, 29, 100)[0][1]), 100)
         self.same(orbit_numbers(product(), 30, 0, 101), [(0, [1] + [0] * 100)])
         self.too_many("places", 3000, orbit_numbers, product(), 30, 1, 101)
+        self.same(orbit_numbers(EULER, 25, 1, 120)[0][1][:4], product_row(EULER, 77)[1::25])
+        self.too_many("places", 3000, orbit_numbers, EULER, 25, 1, 121)
         self.too_many("places", 3000, orbit_numbers, product(), 30, 0, 102)
         self.too_many("places", 3000, orbit_numbers, product(), 16, 0, 200)
         self.too_many("places", 3000, orbit_numbers, LONG, 30, 0, 200)

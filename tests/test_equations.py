@@ -2,14 +2,14 @@ import unittest
 from fractions import Fraction
 from math import gcd
 
-from asking import NOT_TUPLES, PARTS, WRONG_LEVELS, WRONG_PRODUCTS, Asking, beyond, great, pair, product
+from asking import EULER, NOT_TUPLES, PARTS, WRONG_LEVELS, WRONG_PRODUCTS, Asking, beyond, great, pair, product
 from dividing_plainly import PAIRS, TAU, divisors, plain_index, plain_low, sums_of
 
 from etaparts.equations import decided_equation, equation_bound, is_equation_paper, is_terms, serves_equation, sides
 from etaparts.errors import InvalidLevel, InvalidNumber, InvalidProduct, InvalidRest, InvalidStep, InvalidTerms, NotFitting
 from etaparts.errors import TooMany
 from etaparts.orbits import orbit
-from etaparts.series import product_row
+from etaparts.series import numbers_of, product_row
 from etaparts.serving import serves
 
 FIVE = ((5, product((1, -6), (5, 5))),)
@@ -27,6 +27,9 @@ EQUATIONS = [
     (PARTS, 1, 0, ((1, PARTS),)), (PARTS, 1, 0, ((-1, PARTS),)), (TAU, 1, 0, ((1, TAU),)), (product(), 1, 0, ((1, product()),)),
     (TAU, 2, 1, ((-24, TAU),)), (product((1, -2), (2, 1)), 2, 1, ((2, product((1, -4), (2, 2), (4, -1), (8, 2))),)),
     (PARTS, 5, 4, ((5, FIVE[0][1]), (1, product((1, -12), (5, 11))))), (PARTS, 13, 6, ((11, product((1, -13), (2, 12))),)),
+    (PARTS, 1, 0, ((1, PARTS), (1, product((1, -21), (2, 18), (4, 2))))), (EULER, 25, 1, ((-1, EULER),)),
+    (PARTS, 5, 4, ((5, FIVE[0][1]), (1, product((1, -7), (5, 5), (25, 1))))), (product((1, 3)), 5, 3, ((5, product((5, 3))),)),
+    (product((1, 6)), 25, 6, ((11, product((1, 6))), (150, product((5, 6))))), (product((8, 1), (15, -1)), 1, 0, ((1, product((8, 1), (15, -1))),)),
 ]
 
 
@@ -80,14 +83,23 @@ def plain_bound(one, m, t, terms, level):
     return bound - 24 * x - 23 * plain_place(one, m, t, terms[0][1])
 
 
-def plain_sides(one, m, t, terms, many):
-    """Both sides' numbers, as lists."""
+def plain_right(one, m, t, terms, many):
     right = [0] * many
     for coefficient, factor in terms:
         place = plain_place(one, m, t, factor)
         for n, number in enumerate(product_row(factor, many)[:max(many - place, 0)]):
             right[n + place] += coefficient * number
-    return product_row(one, m * (many - 1) + t + 1)[t::m], right
+    return right
+
+
+def plain_sides(one, m, t, terms, many):
+    """Both sides' numbers, as lists."""
+    return product_row(one, m * (many - 1) + t + 1)[t::m], plain_right(one, m, t, terms, many)
+
+
+def far_sides(one, m, t, terms, many):
+    """As plain_sides, with places beyond 3,000."""
+    return numbers_of(one, m * (many - 1) + t + 1)[t::m], plain_right(one, m, t, terms, many)
 
 
 class TestTerms(Asking):
@@ -101,7 +113,7 @@ class TestTerms(Asking):
             ([5, FIVE[0][1]],), ((5,),), ((5, FIVE[0][1], 0),), ((FIVE[0][1], 5),), (FIVE[0], None), (None,), ((5, None),),
             ((5, PARTS),), ((5, product((1, -7), (5, 5))),), ((5, product((1, -5), (5, 5))),), ((5, product((1, -6), (5, 6))),),
             ((5, product((1, -6), (4, 5))),), ((5, product((2, -6), (5, 5))),), (FIVE[0], (0, step)), (FIVE[0], (True, step)),
-            ((5, product((1, 5), (5, -6))),),
+            ((5, product((1, 5), (5, -6))),), ((5, product((1, 19))),), ((5, product((1, 18), (2, -11), (23, 1))),),
         ] + [((5, value),) for value in WRONG_PRODUCTS]
         self.only_for(lambda value: is_terms(PARTS, 5, 4, value), right, wrong)
         for t in range(4):
@@ -126,6 +138,7 @@ class TestTerms(Asking):
                      if a and b and 59 * a + 57 * b + 55 * c == 24 * place]
             self.assertEqual(sums_of(found[0]), (0, 24 * place))
             self.same(is_terms(product(), 1, 0, ((1, found[0]),)), right)
+            self.same(is_terms(product(), 30, 0, ((1, found[0]),)), right)
         self.no(is_terms(product(), 1, 0, ((1, product((1, -1), (2, 1))),)))
 
     def test_the_orbit_is_one_rest(self):
@@ -178,6 +191,10 @@ class TestServing(Asking):
         self.assertEqual([level for level in range(1, 121)
                           if serves_equation(PARTS, 1, 0, ((1, first), (1, turned_off)), level)], [])
         self.no(goes_plainly(turned_off, first, 4))
+        # By the first one it has the sign 1 and an INTEGER as its shift, but not when turned at 4 or at 8.
+        late = product((1, -21), (2, 18), (4, 2))
+        self.assertEqual([level for level in range(1, 121) if serves_equation(PARTS, 1, 0, ((1, PARTS), (1, late)), level)],
+                         list(range(16, 121, 16)))
         self.no(goes_plainly(signed, product(), 2))
 
     def test_quotients_that_are_no_products(self):
@@ -287,6 +304,9 @@ class TestDecided(Asking):
         self.same(decided_equation(PARTS, 7, 5, SEVEN[:1]), ("place", 1, 77, 28))
         self.same(decided_equation(PARTS, 7, 5, SEVEN[1:]), ("place", 0, 7, 0))
         self.same(decided_equation(PARTS, 25, 24, TWENTYFIVE[:-1])[:2], ("place", 4))
+        one = product((8, 1), (15, -1))
+        self.same(decided_equation(one, 1, 0, ((1, one),)), ("holds", 120))
+        self.yes(is_equation_paper(one, 1, 0, ((1, one),), ("holds", 120)))
 
     def test_no_level_serves(self):
         terms = ((1, product((1, -9), (2, 12), (4, -4))), (1, product((1, -11), (2, 3), (4, 7))))
@@ -334,26 +354,48 @@ class TestPapers(Asking):
         self.yes(serves_equation(PARTS, 25, 24, TWENTYFIVE, 10))
         self.no(is_equation_paper(PARTS, 25, 24, TWENTYFIVE, ("holds", 10)))
         self.no(is_equation_paper(PARTS, 5, 4, ((4, FIVE[0][1]),), ("holds", 5)))
+        self.same(equation_bound(EULER, 25, 1, ((-1, EULER),), 60), (3432, 25))
+        self.yes(is_equation_paper(EULER, 25, 1, ((-1, EULER),), ("holds", 5)))
+        self.no(is_equation_paper(EULER, 25, 1, ((-1, EULER),), ("holds", 60)))
+        # The last place would be 201.
+        self.same(equation_bound(product((1, 3)), 5, 3, ((5, product((5, 3))),), 50), (1008, 5))
+        self.yes(is_equation_paper(product((1, 3)), 5, 3, ((5, product((5, 3))),), ("holds", 25)))
+        self.no(is_equation_paper(product((1, 3)), 5, 3, ((5, product((5, 3))),), ("holds", 50)))
 
     def test_places(self):
-        row = product_row(PARTS, 1005)
+        row = product_row(PARTS, 1010)
         four = ((4, FIVE[0][1]),)
         right = [("place", 0, 5, 4), ("place", 1, 30, 24), ("place", 200, row[1004], row[1004] // 5 * 4)]
         wrong = NOT_TUPLES + [
             ("place", 0, 4, 5), ("place", 0, 5, 5), ("place", 0, 4, 4), ("place", 0, 5, 3), ("place", 1, 5, 4), ("place", -1, 5, 4),
             ("place", 0, 5), ("place", 0, 5, 4, 0), ["place", 0, 5, 4], ("place", False, 5, 4), ("place", "0", 5, 4),
             ("place", 0, "5", 4), ("place", 0, 5, "4"), ("place", None, 5, 4), ("place", 0, None, 4), ("place", 0, 5, None),
-            ("place", 0, (5, 4)), ("Place", 0, 5, 4), ("holds", 5), ("holds", 0, 5, 4), ("place", 201, 5, 4), ("place", 10 ** 29, 5, 4)]
+            ("place", 0, 6, 4), ("place", 201, row[1009], row[1009] // 5 * 4), ("place", 0, (5, 4)), ("Place", 0, 5, 4), ("holds", 5), ("holds", 0, 5, 4), ("place", 201, 5, 4), ("place", 10 ** 29, 5, 4)]
         self.only_for(lambda value: is_equation_paper(PARTS, 5, 4, four, value), right, wrong)
         other = ((-1, PARTS),)
         self.yes(is_equation_paper(PARTS, 1, 0, other, ("place", 0, 1, -1)))
         self.no(is_equation_paper(PARTS, 1, 0, other, ("place", 0, True, -1)))
         self.no(is_equation_paper(PARTS, 1, 0, other, ("place", False, 1, -1)))
+        self.yes(is_equation_paper(PARTS, 5, 4, ((1, FIVE[0][1]),), ("place", 0, 5, 1)))
+        self.no(is_equation_paper(PARTS, 5, 4, ((1, FIVE[0][1]),), ("place", 0, 5, True)))
         # The section's number at 25 times 119 and 24 can be told, that at 25 times 120 and 24 can't.
         double = tuple((2 * coefficient, factor) for coefficient, factor in TWENTYFIVE)
         left, right = sides(PARTS, 25, 24, double, 119)
         self.yes(is_equation_paper(PARTS, 25, 24, double, ("place", 119, left, right)))
+        left, right = [side[120] for side in far_sides(PARTS, 25, 24, double, 121)]
         self.no(is_equation_paper(PARTS, 25, 24, double, ("place", 120, left, right)))
+        # 25 times 120 itself is 3,000.
+        terms = ((1, product((1, -1), (5, 5))),)
+        left, right = [side[120] for side in far_sides(FOUR, 25, 0, terms, 121)]
+        self.assertNotEqual(left, right)
+        self.yes(is_equation_paper(FOUR, 25, 0, terms, ("place", 120, left, right)))
+        self.same(sides(FOUR, 25, 0, terms, 120), (left, right))
+        one = product((1, -1), (2, 1))
+        terms = ((1, product((1, -3), (2, -1), (5, 2), (10, 2))),)
+        for n in (119, 120):
+            left, right = [side[n] for side in far_sides(one, 25, 1, terms, n + 1)]
+            self.assertNotEqual(left, right)
+            self.same(is_equation_paper(one, 25, 1, terms, ("place", n, left, right)), n == 119)
 
 
 if __name__ == "__main__":

@@ -19,7 +19,7 @@ GREAT = product((1, 48))
 WHOLE = [(1, TAU), (2, TAU), (1, GREAT), (11, TWO), (22, TWO), (23, LATE), (4, SQUARES), (2, product((1, 8), (2, 8))),
          (3, product((1, 6), (3, 6))), (5, product((1, 4), (5, 4))), (7, product((1, 3), (7, 3))), (4, product((2, 12))),
          (4, product((1, -8), (2, 20), (4, -8))), (6, product((1, 2), (2, 2), (3, 2), (6, 2))), (16, product((4, 6))),
-         (110, TWO), (120, TAU)]
+         (110, TWO), (120, TAU), (23, product((1, 24), (23, 24)))]
 ODD_PRIMES = [p for p in range(3, 98) if all(p % d for d in range(2, p))]
 # No serving primes of the level 15.
 WRONG_PRIMES = beyond(3, 97) + [0, 1, 2, 3, 4, 5, 6, 9, 15, 21, 49, 95, 96, 98, 99, 101, -7]

@@ -240,6 +240,11 @@ class TestSections(Asking):
         self.same(judged(("dividing", THREES, 3, 2, 27, 3, 1, 9)), ("bad", (2, 0)))
         self.same(judged(("dividing", product(), 2, 1, 2, 2, 1, 0)), ("ok", "dividing"))
         self.same(judged(("dividing", PARTS, 7, 5, 49, 7, 1, 7)), ("bad", (5, 0)))
+        # m, u and the level at the ends of their bounds.
+        self.same(judged(("dividing", product(), 30, 29, 1000, 30, 1, 0)), ("ok", "dividing"))
+        self.same(judged(("dividing", product(), 30, 29, 1000, 120, 1, 0)), ("ok", "dividing"))
+        self.same(judged(("dividing", PARTS, 11, 6, 11, 11, 1, 11)), ("ok", "dividing"))
+        self.same(judged(("dividing", PARTS, 11, 6, 11, 121, 1, 11)), BAD)
         self.same([judged(("spoilt", PARTS, 5, 3, 5, 3, 0)), judged(("spoilt", PARTS, 5, 3, 5, 0, 0)), judged(("spoilt", PARTS, 5, 3, 5, 1, 0))],
                   [("ok", "spoilt"), ("ok", "spoilt"), BAD])
         self.same([judged(("spoilt", PARTS, 5, 4, 5, 4, 0)), judged(("spoilt", PARTS, 5, 4, 25, 4, 0))], [BAD, ("ok", "spoilt")])
@@ -260,6 +265,8 @@ class TestSections(Asking):
         u = [u for u in range(2, 50) if row[2999] % u][0]
         self.same(judged(("spoilt", PARTS, 1, 0, u, 0, 2999)), ("ok", "spoilt"))
         self.same(judged(("spoilt", product((3, -1)), 15, 0, [u for u in range(2, 50) if row[1000] % u][0], 0, 200)), ("ok", "spoilt"))
+        for u in range(2, 30):
+            self.same(judged(("spoilt", PARTS, 2, 1, u, 1, 1500)), BAD)
         for u in range(2, 8):
             self.same(judged(("spoilt", PARTS, 1, 0, u, 0, 3001)), BAD)
             self.same(judged(("spoilt", PARTS, 1, 0, u, 0, 10 ** 29)), BAD)

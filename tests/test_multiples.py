@@ -29,7 +29,7 @@ def plain_answer(level, one, p):
 class TestDecided(Asking):
     def test_against_the_words_and_far_beyond(self):
         seen = {"multiple": 0, "place": 0}
-        for level, one in WHOLE:
+        for level, one in WHOLE + [(5, MIXED), (9, product((1, 6), (3, -3), (9, 3))), (19, product((1, 5), (19, 1)))]:
             for p in serving(level, 19):
                 if p * places_asked(level, one) > 3000:
                     continue

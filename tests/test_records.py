@@ -35,7 +35,7 @@ def record_with(lines):
 
 class TestTreeTexts(Asking):
     def test_known(self):
-        for value, text in ((0, "0"), (-3, "-3"), (10 ** 30 - 1, "9" * 30), (1 - 10 ** 30, "-" + "9" * 30), ("a", "a"), ((), "()"),
+        for value, text in ((0, "0"), (-3, "-3"), (10 ** 30 - 1, "9" * 30), (1 - 10 ** 30, "-" + "9" * 30), ("a", "a"), ("z", "z"), ("zzyzx", "zzyzx"), ((), "()"),
                             ("abcdefghijkl", "abcdefghijkl"), (("sum", (-3, ())), "(sum (-3 ()))"), ((1,), "(1)"), (((),), "(())"),
                             ((1, -2, "c"), "(1 -2 c)"), (PARTS, "(product ((1 -1)))"), (product(), "(product ())"),
                             (squares(1, 2), "(squares (1 2))"), (((), (), (1, (2,))), "(() () (1 (2)))")):

@@ -175,6 +175,7 @@ class TestFinds(Asking):
         self.refused(InvalidProduct, WRONG_PRODUCTS, lambda value: is_find(value, 5, (5, 4, 5, 1, 5)))
         self.refused(InvalidDivisor, beyond(2, 1000), lambda value: is_find(PARTS, value, (5, 4, 5, 1, 5)))
         self.told(InvalidProduct, {"value": None}, is_find, None, 1, None)
+        self.told(InvalidDivisor, {"value": 1001}, is_find, PARTS, 1001, None)
 
 
 if __name__ == "__main__":
