@@ -64,27 +64,22 @@ def parse_record(text):
     pieces = text.split("\n")
     # What stands behind the last line feed is no line, but a piece without one is a line that is not as told.
     lines = pieces[:-1]
-    claim = word_of(lines)
-    for position in range(1, 1 + parts_behind(claim[0])):
-        claim += (part_of(lines, position),)
-    end = len(claim)
+    word, many = word_and_many(lines)
+    parts = [part_of(lines, position) for position in range(1, 1 + many)]
+    end = 1 + many
     if len(lines) <= end or lines[end] != last_line(lines[:end]):
         raise BadRecord(end)
     if len(lines) > end + 1 or pieces[-1] != "":
         raise BadRecord(end + 1)
-    return claim
+    return (word, *parts)
 
 
-def word_of(lines):
-    """The tuple of the word that the first line tells."""
-    for word, _ in claim_words():
+def word_and_many(lines):
+    """The word that the first line tells, and how many parts stand behind it."""
+    for word, many in claim_words():
         if lines[:1] == [first_line(word)]:
-            return (word,)
+            return word, many
     raise BadRecord(0)
-
-
-def parts_behind(word):
-    return dict(claim_words())[word]
 
 
 def part_of(lines, position):
